@@ -1,0 +1,1 @@
+"""Finite semigroups, with papers: everything is imported from the modules of this package."""

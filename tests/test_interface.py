@@ -1,0 +1,110 @@
+"""The names, the arguments and the files of the interface, and the rules of the language that are cheap to check."""
+
+import ast
+import importlib
+import inspect
+import unittest
+from pathlib import Path
+
+from reesblocks.semigroup import Semigroup
+
+PACKAGE = Path(__file__).resolve().parent.parent / "reesblocks"
+
+FUNCTIONS = {
+    "whole": [
+        "is_integer(value)", "is_equivalence(value, n)", "classes_of(pairs, n)", "by_keys(keys)", "joined(a, b)",
+        "meet(a, b)", "refines(a, b)", "class_sets(classes)",
+    ],
+    "semigroup": ["read_semigroup(text)"],
+    "parts": [
+        "least_words(s, items)", "generated(s, items)", "left_ideal(s, items)", "right_ideal(s, items)",
+        "ideal(s, items)", "least_ideal(s)", "is_subsemigroup(s, value)", "is_ideal(s, value)", "restricted(s, value)",
+        "index_and_period(s, x)", "idempotent_power(s, x)",
+    ],
+    "build": [
+        "null_semigroup(n)", "left_zero(n)", "right_zero(n)", "cyclic_group(n)", "rectangular_band(m, k)",
+        "monogenic(index, period)", "brandt(m)", "semilattice(n, pairs)", "direct_product(a, b)", "opposite(s)",
+        "with_zero(s)", "with_unit(s)", "relabeled(s, images)",
+    ],
+    "maps": [
+        "is_transformation(value)", "is_partial(value)", "composed(f, g)", "generated_maps(maps)", "right_regular(s)",
+        "is_synchronizing(maps)", "reset_word(maps)", "merging_word(maps, i, j)",
+    ],
+    "green": [
+        "r_classes(s)", "l_classes(s)", "h_classes(s)", "d_classes(s)", "j_classes(s)", "r_at_most(s, x, y)",
+        "l_at_most(s, x, y)", "j_at_most(s, x, y)", "egg_box(s, x)", "is_regular(s, x)", "regular_elements(s)",
+        "is_group_class(s, x)", "group_at(s, e)",
+    ],
+}
+
+CLASSES = {"errors": ["Fault", "Malformed", "Refused", "NoText"], "semigroup": ["Semigroup"]}
+
+METHODS = [
+    "is_element(self, value)", "multiply(self, x, y)", "product(self, items)", "power(self, x, k)",
+    "idempotents(self)", "zero(self)", "unit(self)", "__init__(self, table)", "__eq__(self, other)", "__str__(self)",
+]
+
+BARRED = {"register", "mro", "elements", "open", "input", "law", "version_info", "with_traceback", "add_note"}
+
+
+def told(function):
+    return function.__name__ + str(inspect.signature(function))
+
+
+class Interface(unittest.TestCase):
+    def test_functions(self):
+        for name, functions in FUNCTIONS.items():
+            module = importlib.import_module("reesblocks." + name)
+            for line in functions:
+                function = getattr(module, line.partition("(")[0])
+                self.assertEqual(told(function), line)
+                self.assertEqual(function.__module__, module.__name__)
+
+    def test_classes(self):
+        for name, classes in CLASSES.items():
+            module = importlib.import_module("reesblocks." + name)
+            for line in classes:
+                self.assertEqual(getattr(module, line).__module__, module.__name__)
+
+    def test_methods(self):
+        for line in METHODS:
+            self.assertEqual(told(vars(Semigroup)[line.partition("(")[0]]), line)
+
+
+class Language(unittest.TestCase):
+    def files(self):
+        for path in sorted(PACKAGE.rglob("*.py")):
+            text = path.read_text(encoding="utf-8")
+            yield path.name, text, ast.parse(text)
+
+    def test_sizes_and_characters(self):
+        for name, text, tree in self.files():
+            lines = text.split("\n")
+            self.assertLessEqual(len(lines), 400, name)
+            for line in lines:
+                self.assertLessEqual(len(line), 120, name)
+                self.assertTrue(all(" " <= character <= "~" for character in line), name)
+            for node in ast.walk(tree):
+                if isinstance(node, ast.FunctionDef):
+                    self.assertLessEqual(node.end_lineno - node.lineno + 1, 40, node.name)
+
+    def test_imports_name_the_files_of_their_names(self):
+        defined = {}
+        for name, _, tree in self.files():
+            names = {node.name for node in tree.body if isinstance(node, (ast.FunctionDef, ast.ClassDef))}
+            names |= {target.id for node in tree.body if isinstance(node, ast.Assign) for target in node.targets}
+            defined["reesblocks." + name.removesuffix(".py")] = names
+        for name, _, tree in self.files():
+            for node in ast.walk(tree):
+                self.assertNotIsInstance(node, ast.Import, name)
+                if isinstance(node, ast.ImportFrom):
+                    self.assertLessEqual({alias.name for alias in node.names}, defined[node.module], name)
+
+    def test_barred_names_and_own_truths(self):
+        for name, _, tree in self.files():
+            for node in ast.walk(tree):
+                for field in ("id", "attr", "arg", "name"):
+                    self.assertNotIn(getattr(node, field, None), BARRED, name)
+                # A class has an equality of its own, so these take lists.
+                if isinstance(node, ast.Call) and getattr(node.func, "id", "") in ("any", "all", "min", "max", "sum"):
+                    self.assertFalse(any(isinstance(argument, ast.GeneratorExp) for argument in node.args), name)
