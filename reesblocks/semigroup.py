@@ -10,11 +10,11 @@ class Semigroup:
     """A semigroup of the numbers 0, .., n - 1; table[x][y] is the product of x and y."""
 
     def __init__(self, table):
-        if not _is_table(table):
+        if not is_table(table):
             raise Malformed("the table is no square of numbers below its size")
         refuse_large(len(table))
         rows = tuple([tuple(row) for row in table])
-        if not _is_associative(rows):
+        if not is_associative(rows):
             raise Refused("associative")
         self.n = len(rows)
         self.table = rows
@@ -67,6 +67,28 @@ class Semigroup:
         return None
 
 
+def is_table(value):
+    """Tell whether the value is a list or tuple of n lists or tuples of n elements, n from 1 on."""
+    if not isinstance(value, (list, tuple)) or len(value) == 0:
+        return False
+    n = len(value)
+    for row in value:
+        if not isinstance(row, (list, tuple)) or len(row) != n:
+            return False
+        if not all([is_below(x, n) for x in row]):
+            return False
+    return True
+
+
+def is_associative(rows):
+    """Tell whether (x y) z = x (y z) for all elements."""
+    for row in rows:
+        for y, behind in enumerate(rows):
+            if rows[row[y]] != tuple([row[z] for z in behind]):
+                return False
+    return True
+
+
 def refuse_large(many):
     """Raise Refused("large") for more elements than a semigroup may have here."""
     if many > MOST:
@@ -97,28 +119,6 @@ def read_semigroup(text):
     if str(found) != text:
         raise NoText(0)
     return found
-
-
-def _is_table(value):
-    """Tell whether the value is a list or tuple of n lists or tuples of n elements, n from 1 on."""
-    if not isinstance(value, (list, tuple)) or len(value) == 0:
-        return False
-    n = len(value)
-    for row in value:
-        if not isinstance(row, (list, tuple)) or len(row) != n:
-            return False
-        if not all([is_below(x, n) for x in row]):
-            return False
-    return True
-
-
-def _is_associative(rows):
-    """Tell whether (x y) z = x (y z) for all elements."""
-    for row in rows:
-        for y, behind in enumerate(rows):
-            if rows[row[y]] != tuple([row[z] for z in behind]):
-                return False
-    return True
 
 
 def _rows_text(rows):

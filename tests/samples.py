@@ -139,3 +139,58 @@ def equivalences(n):
     for colours in product(range(n), repeat=n):
         found.add(tuple(min(y for y in range(n) if colours[y] == colours[x]) for x in range(n)))
     return sorted(found)
+
+
+def group_from(generators):
+    """The table of the group of all products of some permutations, with the unit as 0."""
+    found = closure(generators)
+    return tuple(tuple(found.index(then(f, g)) for g in found) for f in found)
+
+
+def times(one, two):
+    """The table of the direct product of two groups."""
+    k = len(two)
+    return tuple(
+        tuple(one[x // k][y // k] * k + two[x % k][y % k] for y in range(len(one) * k)) for x in range(len(one) * k)
+    )
+
+
+def cyclic(n):
+    return tuple(tuple((x + y) % n for y in range(n)) for x in range(n))
+
+
+def twisted(n, m, k):
+    """The pairs (i, j) modulo n and m with (i, j) (r, s) = (i + k^j r, j + s); k^m is 1 modulo n."""
+    pairs = [(i, j) for i in range(n) for j in range(m)]
+    return tuple(
+        tuple(pairs.index(((i + k ** j * r) % n, (j + s) % m)) for r, s in pairs) for i, j in pairs
+    )
+
+
+def renamed(group, images):
+    """The table in which the element x is called images[x]; the unit 0 must keep its name."""
+    n = len(group)
+    origin = [images.index(x) for x in range(n)]
+    return tuple(tuple(images[group[origin[x]][origin[y]]] for y in range(n)) for x in range(n))
+
+
+QUATERNIONS = group_from([(1, 2, 3, 0, 5, 6, 7, 4), (4, 7, 6, 5, 2, 1, 0, 3)])
+FOUR_GROUP = times(cyclic(2), cyclic(2))
+EIGHT_TWOS = times(FOUR_GROUP, cyclic(2))
+SIXTEEN_TWOS = times(FOUR_GROUP, FOUR_GROUP)
+SYMMETRIC_3 = twisted(3, 2, 2)
+EVEN_4 = group_from([(1, 2, 0, 3), (0, 2, 3, 1)])
+
+# One group of each class of isomorphic groups of these orders, without three classes of the order 24.
+GROUPS = {
+    1: [cyclic(1)], 2: [cyclic(2)], 3: [cyclic(3)], 5: [cyclic(5)], 7: [cyclic(7)],
+    4: [cyclic(4), FOUR_GROUP],
+    6: [cyclic(6), SYMMETRIC_3],
+    8: [cyclic(8), times(cyclic(4), cyclic(2)), EIGHT_TWOS, twisted(4, 2, 3), QUATERNIONS],
+    12: [cyclic(12), times(FOUR_GROUP, cyclic(3)), twisted(6, 2, 5), EVEN_4, twisted(3, 4, 2)],
+    24: [
+        cyclic(24), times(cyclic(2), cyclic(12)), times(FOUR_GROUP, cyclic(6)), group_from([(1, 2, 3, 0), (1, 0, 2, 3)]),
+        times(EVEN_4, cyclic(2)), twisted(12, 2, 11), twisted(12, 2, 5), twisted(12, 2, 7), twisted(3, 8, 2),
+        twisted(6, 4, 5), times(FOUR_GROUP, SYMMETRIC_3), times(QUATERNIONS, cyclic(3)),
+    ],
+}

@@ -6,6 +6,7 @@ import inspect
 import unittest
 from pathlib import Path
 
+from reesblocks.rees import Rees
 from reesblocks.semigroup import Semigroup
 
 PACKAGE = Path(__file__).resolve().parent.parent / "reesblocks"
@@ -35,13 +36,26 @@ FUNCTIONS = {
         "l_at_most(s, x, y)", "j_at_most(s, x, y)", "egg_box(s, x)", "is_regular(s, x)", "regular_elements(s)",
         "is_group_class(s, x)", "group_at(s, e)",
     ],
+    "factors": [
+        "principal_factor(s, x)", "factor_kind(s, x)", "is_simple(s)", "is_zero_simple(s)", "is_null(s)",
+    ],
+    "groups": [
+        "is_group_table(value)", "group_form(table)", "form_maps(table)", "group_isomorphisms(one, two)",
+    ],
+    "rees": ["coordinates(s)", "normal_form(data)", "to_form(data)", "alike(a, b)"],
 }
 
-CLASSES = {"errors": ["Fault", "Malformed", "Refused", "NoText"], "semigroup": ["Semigroup"]}
+CLASSES = {"errors": ["Fault", "Malformed", "Refused", "NoText"], "semigroup": ["Semigroup"], "rees": ["Rees"]}
 
 METHODS = [
-    "is_element(self, value)", "multiply(self, x, y)", "product(self, items)", "power(self, x, k)",
-    "idempotents(self)", "zero(self)", "unit(self)", "__init__(self, table)", "__eq__(self, other)", "__str__(self)",
+    (Semigroup, [
+        "is_element(self, value)", "multiply(self, x, y)", "product(self, items)", "power(self, x, k)",
+        "idempotents(self)", "zero(self)", "unit(self)", "__init__(self, table)", "__eq__(self, other)", "__str__(self)",
+    ]),
+    (Rees, [
+        "__init__(self, zero, group, matrix)", "__eq__(self, other)", "size(self)", "number(self, i, g, k)",
+        "triple(self, x)", "semigroup(self)",
+    ]),
 ]
 
 BARRED = {"register", "mro", "elements", "open", "input", "law", "version_info", "with_traceback", "add_note"}
@@ -67,8 +81,9 @@ class Interface(unittest.TestCase):
                 self.assertEqual(getattr(module, line).__module__, module.__name__)
 
     def test_methods(self):
-        for line in METHODS:
-            self.assertEqual(told(vars(Semigroup)[line.partition("(")[0]]), line)
+        for one, lines in METHODS:
+            for line in lines:
+                self.assertEqual(told(vars(one)[line.partition("(")[0]]), line)
 
 
 class Language(unittest.TestCase):
