@@ -1,6 +1,7 @@
 """The names, the arguments and the files of the interface, and the rules of the language that are cheap to check."""
 
 import ast
+import builtins
 import importlib
 import inspect
 import unittest
@@ -43,6 +44,19 @@ FUNCTIONS = {
         "is_group_table(value)", "group_form(table)", "form_maps(table)", "group_isomorphisms(one, two)",
     ],
     "rees": ["coordinates(s)", "normal_form(data)", "to_form(data)", "alike(a, b)"],
+    "congruence": [
+        "is_congruence(s, value)", "generated(s, pairs)", "chain(s, pairs, x, y)", "class_numbers(classes)",
+        "quotient(s, classes)", "congruences(s)", "value_of(s, word, values)", "least_with(s, identities)",
+    ],
+    "lattice": ["covers(s)", "atoms(s)", "monolith(s)", "moebius_numbers(s)"],
+    "homs": [
+        "is_homomorphism(a, b, images)", "homomorphisms(a, b)", "count_homomorphisms(a, b)", "one_to_one(a, b)",
+        "find_isomorphism(a, b)", "automorphisms(s)", "count_by_congruences(a, b)", "unlike_congruence(a, b)",
+    ],
+    "inverse": [
+        "inverses_of(s, x)", "is_inverse_semigroup(s)", "inverse_map(s)", "natural_at_most(s, x, y)",
+        "group_congruence(s)", "representation(s)",
+    ],
 }
 
 CLASSES = {"errors": ["Fault", "Malformed", "Refused", "NoText"], "semigroup": ["Semigroup"], "rees": ["Rees"]}
@@ -58,6 +72,15 @@ METHODS = [
     ]),
 ]
 
+BUILTINS = set(
+    "len range enumerate zip min max sum abs sorted reversed int str bool list tuple dict set isinstance ord repr any "
+    "all divmod ValueError".split()
+)
+BUILTIN_METHODS = set(
+    "append clear copy count endswith extend find get index insert isalnum isalpha isdigit islower isspace isupper "
+    "items join keys ljust lower lstrip partition pop remove replace reverse rfind rjust rpartition rsplit rstrip "
+    "setdefault split splitlines startswith strip update upper values zfill bit_length isascii add".split()
+)
 BARRED = {"register", "mro", "elements", "open", "input", "law", "version_info", "with_traceback", "add_note"}
 
 
@@ -114,6 +137,22 @@ class Language(unittest.TestCase):
                 self.assertNotIsInstance(node, ast.Import, name)
                 if isinstance(node, ast.ImportFrom):
                     self.assertLessEqual({alias.name for alias in node.names}, defined[node.module], name)
+
+    def test_builtins_and_methods(self):
+        own, files = set(), list(self.files())
+        for _, _, tree in files:
+            for node in ast.walk(tree):
+                if isinstance(node, ast.FunctionDef):
+                    own.add(node.name)
+                if isinstance(node, ast.Attribute) and isinstance(node.ctx, ast.Store):
+                    own.add(node.attr)
+        for name, _, tree in files:
+            for node in ast.walk(tree):
+                if isinstance(node, ast.Name) and node.id in dir(builtins):
+                    self.assertIn(node.id, BUILTINS, name)
+                if isinstance(node, ast.Attribute):
+                    self.assertIn(node.attr, own | BUILTIN_METHODS, name)
+                self.assertNotIsInstance(node, (ast.GeneratorExp, ast.Global, ast.AsyncFunctionDef), name)
 
     def test_barred_names_and_own_truths(self):
         for name, _, tree in self.files():
