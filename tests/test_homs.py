@@ -172,6 +172,8 @@ class Numbers(unittest.TestCase):
         self.assertEqual(error_of(count_homomorphisms, left_zero(4), left_zero(15)), MANY)
         self.assertEqual(count_homomorphisms(left_zero(4), left_zero(14)), 38416)
         self.assertEqual(count_homomorphisms(rectangular_band(5, 4), rectangular_band(5, 2)), 50000)
+        # The zero alone is one image more.
+        self.assertEqual(error_of(homomorphisms, rectangular_band(5, 4), with_zero(rectangular_band(5, 2))), MANY)
 
     def test_many_one_to_one(self):
         for a, b in ((NULL_24, NULL_24), (LEFT_ZERO_24, LEFT_ZERO_24), (left_zero(9), left_zero(9))):

@@ -285,6 +285,14 @@ class Forms(unittest.TestCase):
             self.assertTrue(is_isomorphism(images, data.semigroup(), form.semigroup()))
             self.assertEqual(normal_form(form), form)
 
+    def test_isomorphisms_over_a_group_that_does_not_commute(self):
+        random = Random(2)
+        for matrix in random.sample(list(matrices(2, 2, range(6))), 40):
+            data = Rees(False, SYMMETRIC_3, matrix)
+            form, images = to_form(data)
+            self.assertTrue(is_isomorphism(images, data.semigroup(), form.semigroup()))
+            self.assertEqual(normal_form(equivalent(data, random)), form)
+
     def test_equivalent_data(self):
         random = Random(9)
         for data in DATA:
