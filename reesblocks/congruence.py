@@ -119,16 +119,12 @@ def least_with(s, identities):
         raise Malformed("the identities are no list or tuple of pairs of words")
     pairs = {}
     for left, right in identities:
-        for pair in zip(_all_values(s, left), _all_values(s, right)):
+        for pair in zip(all_values(s, left), all_values(s, right)):
             pairs[pair] = True
     return generated(s, list(pairs))
 
 
-def _is_identity(value):
-    return isinstance(value, tuple) and len(value) == 2 and is_word(value[0]) and is_word(value[1])
-
-
-def _all_values(s, word):
+def all_values(s, word):
     """Return the list of the values of a word for all triples of elements, in the order of the triples."""
     every = range(s.n)
     triples = [(x, y, z) for x in every for y in every for z in every]
@@ -137,6 +133,10 @@ def _all_values(s, word):
     for row in rows[1:]:
         found = [s.table[x][y] for x, y in zip(found, row)]
     return found
+
+
+def _is_identity(value):
+    return isinstance(value, tuple) and len(value) == 2 and is_word(value[0]) and is_word(value[1])
 
 
 def _need_pairs(s, pairs):

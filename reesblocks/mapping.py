@@ -19,7 +19,8 @@ class Search:
         self.columns = list(zip(*a.table))
         self.makers = _places_of_products(a)
         self.factors = Factors(b)
-        self.twins = [_bits([one == other for other in twins(b)]) for one in twins(b)]
+        classes = twins(b)
+        self.twins = [_bits([one == other for other in classes]) for one in classes]
         self.siblings = _siblings(a)
         self.one_to_one = one_to_one
         # At most so many are wanted; without a number the first one is.

@@ -194,3 +194,38 @@ GROUPS = {
         twisted(6, 4, 5), times(FOUR_GROUP, SYMMETRIC_3), times(QUATERNIONS, cyclic(3)),
     ],
 }
+
+
+WORDS = [
+    "x", "y", "z", "xx", "xy", "yx", "xyx", "xyz", "zyx", "xxyy", "zzz", "xyzxyzxyzxyz", "zyxzyxzyxzyx", "xxxxxxxxxxxx",
+]
+KINDS = ["isomorphic", "unlike", "sizes", "chain", "apart", "rees", "ideal", "null", "inverse", "not", "holds", "fails"]
+
+
+def changed(value):
+    """The values that come by changing, leaving out, doubling or exchanging one place of a paper, at any depth."""
+    if isinstance(value, bool):
+        yield from (not value, int(value), None, "true", (value,))
+    elif isinstance(value, int):
+        yield from (value + 1, value - 1, 0, 1, 2, -1, -2, 24, 10 ** 5000, True, False, None)
+        yield from (str(value), (value,), [value], ())
+    elif isinstance(value, (tuple, list)):
+        items, kind = list(value), type(value)
+        yield from (list(value), tuple(value), kind(items + [0]), kind([kind(items)]), None, 0, "", "x", (), [])
+        for k, item in enumerate(items):
+            yield kind(items[:k] + items[k + 1:])
+            yield kind(items[:k + 1] + items[k:])
+            for i in range(k):
+                other = list(items)
+                other[i], other[k] = item, items[i]
+                yield kind(other)
+            for other in changed(item):
+                yield kind(items[:k] + [other] + items[k + 1:])
+    else:
+        yield from KINDS
+        yield from ("", value + "s", value[:-1], value.upper(), 0, 1, True, None, (value,), [value])
+
+
+def plain(value):
+    """The value with lists as tuples."""
+    return tuple(plain(item) for item in value) if isinstance(value, (tuple, list)) else value

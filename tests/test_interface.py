@@ -7,7 +7,9 @@ import inspect
 import unittest
 from pathlib import Path
 
+from reesblocks.console import Console
 from reesblocks.rees import Rees
+from reesblocks.replies import Reply
 from reesblocks.semigroup import Semigroup
 
 PACKAGE = Path(__file__).resolve().parent.parent / "reesblocks"
@@ -57,9 +59,27 @@ FUNCTIONS = {
         "inverses_of(s, x)", "is_inverse_semigroup(s)", "inverse_map(s)", "natural_at_most(s, x, y)",
         "group_congruence(s)", "representation(s)",
     ],
+    "words": [
+        "failing(s, left, right)", "holds(s, left, right)", "is_commutative(s)", "is_band(s)", "is_semilattice(s)",
+        "is_rectangular(s)", "is_completely_regular(s)", "is_group(s)", "is_aperiodic(s)", "word_classes(s, letters, most)",
+    ],
+    "papers": [
+        "pair_paper(a, b)", "join_paper(s, pairs, x, y)", "rees_paper(s)", "inverse_paper(s)",
+        "identity_paper(s, left, right)",
+    ],
+    "checker": [
+        "takes_pair(a, b, paper)", "takes_join(s, pairs, x, y, paper)", "takes_rees(s, paper)",
+        "takes_inverse(s, paper)", "takes_identity(s, left, right, paper)",
+    ],
+    "sheet": ["read_line(line)"],
+    "replies": ["reply_to(names, line)", "defined(names, line)", "is_right(names, entry)"],
+    "log": ["write_data(data)", "read_data(text)", "write_log(entries)", "read_log(text)", "first_wrong(entries)"],
 }
 
-CLASSES = {"errors": ["Fault", "Malformed", "Refused", "NoText"], "semigroup": ["Semigroup"], "rees": ["Rees"]}
+CLASSES = {
+    "errors": ["Fault", "Malformed", "Refused", "NoText"], "semigroup": ["Semigroup"], "rees": ["Rees"],
+    "replies": ["Reply"], "console": ["Console"],
+}
 
 METHODS = [
     (Semigroup, [
@@ -70,16 +90,21 @@ METHODS = [
         "__init__(self, zero, group, matrix)", "__eq__(self, other)", "size(self)", "number(self, i, g, k)",
         "triple(self, x)", "semigroup(self)",
     ]),
+    (Reply, ["__init__(self, kind, text='', data=())", "__eq__(self, other)"]),
+    (Console, [
+        "__init__(self, *, most=300)", "enter(self, line)", "__len__(self)", "__iter__(self)", "names(self)", "log(self)",
+    ]),
 ]
 
 BUILTINS = set(
     "len range enumerate zip min max sum abs sorted reversed int str bool list tuple dict set isinstance ord repr any "
-    "all divmod ValueError".split()
+    "all divmod iter ValueError".split()
 )
 BUILTIN_METHODS = set(
     "append clear copy count endswith extend find get index insert isalnum isalpha isdigit islower isspace isupper "
     "items join keys ljust lower lstrip partition pop remove replace reverse rfind rjust rpartition rsplit rstrip "
-    "setdefault split splitlines startswith strip update upper values zfill bit_length isascii add".split()
+    "setdefault split splitlines startswith strip update upper values zfill bit_length isascii removeprefix "
+    "add".split()
 )
 BARRED = {"register", "mro", "elements", "open", "input", "law", "version_info", "with_traceback", "add_note"}
 
