@@ -1,9 +1,10 @@
 """Counting homomorphisms without listing them, since there can be very many (for point 8.2)."""
 
 from reesblocks.parts import index_and_period
-from reesblocks.relations import Words, bits_of, unknowns_in
+from reesblocks.relations import Words, unknowns_in
 from reesblocks.rules import generators_and_rules
-from reesblocks.whole import classes_of
+from reesblocks.twins import twins
+from reesblocks.whole import bits_of, classes_of
 
 
 def homomorphisms_up_to(a, b, most):
@@ -28,7 +29,7 @@ class Count:
         self.words = Words(b)
         self.many = many
         self.most = most
-        self.twins = _twins(b)
+        self.twins = twins(b)
         self.sets = {}
         self.shapes = {}
         self.counted = {}
@@ -97,6 +98,7 @@ class Count:
         return list(parts.values())
 
     def _ways_of_part(self, choices, bonds, rules):
+        """Return the number of ways of a part, or most + 1 if there are more."""
         if not bonds and not rules:
             return len(self._values_in(list(choices.values())[0]))
         numbers = sorted([(pair, relation.label) for pair, relation in bonds.items()])
@@ -108,7 +110,7 @@ class Count:
         return self.counted[key]
 
     def _tried(self, choices, bonds, rules):
-        """Return the number of ways of a part, by trying the values of one unknown."""
+        """Return the number of ways of a part, or most + 1 if there are more, by trying the values of one unknown."""
         x = self._chosen(choices, bonds, rules)
         total = 0
         for v, many in self._unlike_values(x, choices, bonds, rules):
@@ -139,6 +141,7 @@ class Count:
         for relation in bonds.values():
             swaps[relation.label] = relation.exchangeable()
         if rules:
+            # An element in a rule stays where it is, so it cannot be exchanged there.
             used = sorted({-1 - letter for left, right in rules for letter in left + right if letter < 0})
             swaps[-1] = [-1 - v if v in used else twin for v, twin in enumerate(self.twins)]
         groups = {}
@@ -170,20 +173,4 @@ def _narrow(choices, bonds):
                 again = True
             elif other & ~every == 0:
                 del bonds[(x, y)]
-    return True
-
-
-def _twins(s):
-    """Return the equivalence of the elements that can be exchanged without changing any product."""
-    return classes_of([(x, y) for y in range(s.n) for x in range(y) if _can_swap(s, x, y)], s.n)
-
-
-def _can_swap(s, x, y):
-    """Tell whether exchanging x and y is an automorphism."""
-    images = list(range(s.n))
-    images[x], images[y] = y, x
-    for p, row in enumerate(s.table):
-        other = s.table[images[p]]
-        if [images[pq] for pq in row] != [other[image] for image in images]:
-            return False
     return True

@@ -2,7 +2,9 @@
 
 from reesblocks.errors import Refused
 from reesblocks.parts import index_and_period
-from reesblocks.shapes import shapes, twins
+from reesblocks.shapes import shapes
+from reesblocks.twins import twins
+from reesblocks.whole import bits_of
 
 FREE = -1
 
@@ -20,7 +22,7 @@ class Search:
         self.makers = _places_of_products(a)
         self.factors = Factors(b)
         classes = twins(b)
-        self.twins = [_bits([one == other for other in classes]) for one in classes]
+        self.twins = [bits_of([one == other for other in classes]) for one in classes]
         self.siblings = _siblings(a)
         self.one_to_one = one_to_one
         # At most so many are wanted; without a number the first one is.
@@ -54,7 +56,7 @@ class Search:
         free = [x for x, image in enumerate(images) if image == FREE]
         if len(free) < 2:
             return self._last_ones(choices, images, free)
-        used = _bits([v in images for v in range(len(self.twins))])
+        used = bits_of([v in images for v in range(len(self.twins))])
         found = []
         firsts = {}
         x = self._chosen(choices, images, free)
@@ -198,7 +200,7 @@ def all_choices(a, b):
     found = []
     for x in range(a.n):
         index, period = index_and_period(a, x)
-        found.append(_bits([i <= index and period % d == 0 for i, d in told]))
+        found.append(bits_of([i <= index and period % d == 0 for i, d in told]))
     return found
 
 
@@ -208,7 +210,7 @@ def one_to_one_choices(a, b):
         told, others = shapes(a, b)
     else:
         told, others = [[index_and_period(s, x) for x in range(s.n)] for s in (a, b)]
-    return [_bits([one == other for other in others]) for one in told]
+    return [bits_of([one == other for other in others]) for one in told]
 
 
 def _as_factor(images, products, others, missing, kept):
@@ -242,13 +244,4 @@ def _siblings(s):
 
 def _kept(products):
     """Return the bits of the places that have themselves as items."""
-    return _bits([w == u for w, u in enumerate(products)])
-
-
-def _bits(truths):
-    """Return the integer whose bits tell at which places there is True."""
-    bits = 0
-    for place, truth in enumerate(truths):
-        if truth:
-            bits |= 1 << place
-    return bits
+    return bits_of([w == u for w, u in enumerate(products)])

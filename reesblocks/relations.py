@@ -4,7 +4,7 @@ A word is a tuple of letters: the letter x from 0 on is an unknown, and the lett
 elements are told as the bits of integers.
 """
 
-from reesblocks.whole import by_keys, classes_of
+from reesblocks.whole import bits_of, by_keys, classes_of
 
 
 class Relation:
@@ -77,8 +77,8 @@ class Words:
         """Return the values of the only unknown x for which two words are equal."""
         pair = _renamed(left, [x]), _renamed(right, [x])
         if pair not in self.single:
-            values = zip(self._values(pair[0]), self._values(pair[1]))
-            self.single[pair] = bits_of([one == other for one, other in values])
+            ones, others = [self._values(word) for word in pair]
+            self.single[pair] = bits_of([one == other for one, other in zip(ones, others)])
         return self.single[pair]
 
     def relation(self, left, right, x, y):
@@ -129,15 +129,6 @@ class Words:
 def unknowns_in(left, right):
     """Return the ascending list of the unknowns in two words."""
     return sorted({letter for letter in left + right if letter >= 0})
-
-
-def bits_of(truths):
-    """Return the integer whose bits tell at which places there is a truth."""
-    bits = 0
-    for place, truth in enumerate(truths):
-        if truth:
-            bits |= 1 << place
-    return bits
 
 
 def _role(k, many):

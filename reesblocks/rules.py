@@ -29,8 +29,8 @@ def few_generators(s):
     while len(known) < s.n:
         parts = [(x, generated(s, [*chosen, x])) for x in range(s.n) if x not in known]
         most = max([len(part) for _, part in parts])
-        x, known = [(x, part) for x, part in parts if len(part) == most][0]
-        chosen.append(x)
+        best, known = [pair for pair in parts if len(pair[1]) == most][0]
+        chosen.append(best)
     for x in list(chosen):
         others = [y for y in chosen if y != x]
         if others and len(generated(s, others)) == s.n:

@@ -1,4 +1,4 @@
-"""Integers, and equivalences of the numbers 0, .., n - 1 (points 1.1 and 1.4)."""
+"""Integers, equivalences of the numbers 0, .., n - 1 (points 1.1 and 1.4), and sets of numbers told by bits."""
 
 
 def is_integer(value):
@@ -84,3 +84,12 @@ def class_sets(classes):
         members.setdefault(least, []).append(x)
     # Each class is met first at its least number, so they stand in ascending order.
     return tuple([tuple(numbers) for numbers in members.values()])
+
+
+def bits_of(truths):
+    """Return the integer whose bits tell at which places there is a truth."""
+    bits = 0
+    for place, truth in enumerate(truths):
+        if truth:
+            bits |= 1 << place
+    return bits

@@ -12,8 +12,7 @@ def failing(s, left, right):
     """Return the least triple of elements for x, y and z for which two words have unlike values, or None."""
     if not is_word(left) or not is_word(right):
         raise Malformed("these are no two words")
-    rows = zip(all_values(s, left), all_values(s, right))
-    for place, (one, other) in enumerate(rows):
+    for place, (one, other) in enumerate(list(zip(all_values(s, left), all_values(s, right)))):
         if one != other:
             # The triples stand in ascending order, so their places are numbers with three digits.
             x, rest = divmod(place, s.n * s.n)

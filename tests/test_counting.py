@@ -1,10 +1,11 @@
 import unittest
 from itertools import product
 from math import comb
+from random import Random
 
 from reesblocks.build import (
-    brandt, cyclic_group, direct_product, left_zero, monogenic, null_semigroup, rectangular_band, relabeled, with_unit,
-    with_zero,
+    brandt, cyclic_group, direct_product, left_zero, monogenic, null_semigroup, opposite, rectangular_band, relabeled,
+    with_unit, with_zero,
 )
 from reesblocks.counting import homomorphisms_up_to
 from reesblocks.errors import Refused
@@ -51,6 +52,26 @@ class Middle(unittest.TestCase):
                 self.assertEqual(homomorphisms_up_to(a, b, 50000), 50001)
             else:
                 self.assertEqual(homomorphisms_up_to(a, b, HUGE), many)
+
+    def test_random_ones(self):
+        source = Random(5)
+        for _ in range(150):
+            a, b = self.random_one(source), self.random_one(source)
+            try:
+                many = count_homomorphisms(a, b)
+            except Refused:
+                continue
+            self.assertEqual(homomorphisms_up_to(a, b, HUGE), many)
+
+    def random_one(self, source):
+        """Generators whose products are some elements more, or a zero; few values make many elements alike."""
+        many, colours, free = source.randrange(2, 7), source.randrange(1, 4), source.random()
+        table = [[source.randrange(colours) if source.random() < free else None for _ in range(many)] for _ in range(many)]
+        s = layered(many, lambda x, y: table[x][y], colours)
+        kind = source.randrange(6)
+        if kind < 2 and s.n < 9:
+            return direct_product(s, (left_zero(2), by_rule(2, min))[kind])
+        return [with_unit, with_zero, opposite, lambda some: some][kind - 2](s) if kind > 1 else s
 
     def test_renamed(self):
         for s in MIDDLE:

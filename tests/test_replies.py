@@ -304,7 +304,8 @@ class Entries(Case):
         right = Reply("error", "text")
         for value in odd_values():
             self.assertIs(is_right(NAMES, value), False)
-            self.assertIs(is_right(NAMES, ("", value)), False)
+            for line in ("", "rees a", "show a", "help", "alike h i", "box nobody 0"):
+                self.assertIs(is_right(NAMES, (line, value)), False)
             self.assertIs(is_right(NAMES, [value, right]), False)
             self.assertIs(is_right(NAMES, (value, right, right)), False)
             # A value that is no line has the reply of point 9.3, too.

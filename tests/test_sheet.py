@@ -71,8 +71,13 @@ class Reading(unittest.TestCase):
         for number in range(100):
             self.right(f"box a {number}", ("box", "a", number))
             self.right(f"joined a 1 {number} 2 {99 - number}", ("joined", "a", 1, number, 2, 99 - number))
-        for number in ("100", "00", "01", "09", "-1", "+1", "-0", "1.0", "1_0", "a", "0x1", "9" * 1000, "True", "1,"):
+        for number in ("100", "00", "01", "09", "-1", "+1", "-0", "1.0", "1_0", "a", "x", "9" * 1000, "True", "1,"):
             self.wrong(f"box a {number}", f"factor b a {number}", f"joined a {number} 0 0 0", f"joined a 0 0 0 {number}")
+
+    def test_kinds_of_tokens(self):
+        # A token of another kind is none of the form, although it would be right elsewhere.
+        self.wrong("show 5", "box a xy", "box 5 a", "joined a x 0 0 0", "joined 0 a 0 0 0", "factor a 0 b", "factor 0 a 0")
+        self.wrong("identity a 0 x", "identity 0 x x", "identity a b x", "identity a x b", "maps a 0", "let 0 = 1: 0")
 
     def test_words(self):
         for word in ("x", "y", "z", "xyzxyzxyzxyz", "zzzzzzzzzzzz"):
