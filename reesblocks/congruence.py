@@ -46,7 +46,8 @@ def chain(s, pairs, x, y):
     level = [x]
     while level and y not in ways:
         further = []
-        for z in level:
+        # The list that is filled here is the next level, so a copy of the level is walked.
+        for z in list(level):
             for after, step in steps[z].items():
                 if after not in ways:
                     ways[after] = (*ways[z], step)
