@@ -12,7 +12,8 @@ def words_in_order(start, many, step):
     level = [(start, ())]
     while level:
         longer = []
-        for value, word in level:
+        # The list that is filled here is the next level, so a copy of the level is walked.
+        for value, word in list(level):
             for index in range(many):
                 after = step(value, index)
                 if after not in seen:
